@@ -1,0 +1,1 @@
+"""Redpaint: an ordered tree that keeps itself low."""
