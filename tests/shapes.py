@@ -4,6 +4,10 @@ Trees are built here as plain tuples, so that a fault of the package does not
 hide in what it is tested with.
 """
 
+import unittest
+
+from redpaint.errors import TreeError
+
 FAR = 10 ** 60 - 1
 THINGS = (None, True, False, 0, 1, -7, "", "a text\nof\tlines", (), (None, (True, (1, "x"))))
 
@@ -56,6 +60,69 @@ def _survey(tree, broken):
     if count != many_left + 1 + many_right:
         broken.add("counts")
     return many_left + 1 + many_right, high_left + (not paint)
+
+
+def depth(tree):
+    """How many knots there are on the longest road of a tree."""
+    if tree is None:
+        return 0
+    return 1 + max(depth(tree[1]), depth(tree[4]))
+
+
+def most_met(many):
+    """How many keys the road to any key has at most in a sound tree of many keys (point 16)."""
+    return 2 * len(bin(many + 1)[2:]) - 2
+
+
+def probes(keys):
+    """Each key, one less and one more, and keys far off at either end."""
+    found = {0, -FAR, FAR}
+    for key in keys:
+        found.update((key - 1, key, key + 1))
+    return sorted(found)
+
+
+def marked(tree, mark):
+    """The tree of the same shape whose things tell of the mark and the key."""
+    if tree is None:
+        return None
+    paint, left, key, _, right, count = tree
+    return (paint, marked(left, mark), key, (mark, key), marked(right, mark), count)
+
+
+def chance(seed):
+    """A row of numbers without end; it is the same one each time."""
+    while True:
+        seed = (seed * 6364136223846793005 + 1442695040888963407) % 2 ** 64
+        yield seed >> 33
+
+
+class TreeCase(unittest.TestCase):
+    """What the tests of several modules ask."""
+
+    def refused(self, error, deed, *given):
+        for kind in (error, TreeError, ValueError):
+            with self.assertRaises(kind) as caught:
+                deed(*given)
+            self.assertIs(type(caught.exception), error)
+
+    def assert_pair(self, given, wanted):
+        self.assertEqual(given, wanted)
+        if wanted is not None:
+            self.assertIs(type(given), tuple)
+            self.assertIs(given[1], wanted[1])
+
+    def assert_pairs(self, given, wanted):
+        self.assertIs(type(given), list)
+        self.assertEqual([key for key, _ in given], [key for key, _ in wanted])
+        for one, other in zip(given, wanted):
+            self.assert_pair(one, other)
+
+    def assert_tree(self, tree, pairs):
+        """The tree is sound, is as low as point 16 says, and has these pairs."""
+        self.assertEqual(faults(tree), [])
+        self.assert_pairs(flat(tree), pairs)
+        self.assertLessEqual(depth(tree), most_met(len(pairs)))
 
 
 def sound_trees(keys):

@@ -2,9 +2,11 @@
 
 import unittest
 
-from redpaint.errors import NotApart, TreeError
+from redpaint.errors import NotApart
 from redpaint.joining import cut_at, joined, laid
-from shapes import FAR, THINGS, faults, flat, large_trees, leaf, low_tree, sound_trees, steep_count, steep_tree
+from shapes import (
+    FAR, THINGS, TreeCase, faults, flat, large_trees, leaf, low_tree, sound_trees, steep_count, steep_tree,
+)
 
 SMALL = 7
 
@@ -17,20 +19,7 @@ def small_trees(first, step=1):
     return trees
 
 
-class Case(unittest.TestCase):
-
-    def refused(self, deed, *given):
-        for kind in (NotApart, TreeError, ValueError):
-            with self.assertRaises(kind) as caught:
-                deed(*given)
-            self.assertIs(type(caught.exception), NotApart)
-
-    def assert_tree(self, tree, pairs):
-        self.assertEqual(faults(tree), [])
-        given = flat(tree)
-        self.assertEqual([key for key, _ in given], [key for key, _ in pairs])
-        for (_, thing), (_, wanted) in zip(given, pairs):
-            self.assertIs(thing, wanted)
+class Case(TreeCase):
 
     def assert_cut(self, tree, key):
         before = repr(tree)
@@ -115,18 +104,18 @@ class Joined(Case):
                     if (one is None or key > 4) and (other is None or key < 6):
                         self.check_joined(one, key, "x", other)
                     else:
-                        self.refused(joined, one, key, "x", other)
+                        self.refused(NotApart, joined, one, key, "x", other)
 
     def test_refused_by_one_key_alone(self):
-        self.refused(joined, leaf(5), 5, "x", None)
-        self.refused(joined, leaf(6), 5, "x", None)
-        self.refused(joined, None, 5, "x", leaf(5))
-        self.refused(joined, None, 5, "x", leaf(4))
-        self.refused(joined, low_tree(range(4000)), 3999, "x", None)
-        self.refused(joined, None, 0, "x", low_tree(range(3999)))
-        self.refused(joined, leaf(FAR), FAR, "x", None)
-        self.refused(joined, None, -FAR, "x", leaf(-FAR))
-        self.refused(joined, leaf(9), 5, "x", leaf(1))
+        self.refused(NotApart, joined, leaf(5), 5, "x", None)
+        self.refused(NotApart, joined, leaf(6), 5, "x", None)
+        self.refused(NotApart, joined, None, 5, "x", leaf(5))
+        self.refused(NotApart, joined, None, 5, "x", leaf(4))
+        self.refused(NotApart, joined, low_tree(range(4000)), 3999, "x", None)
+        self.refused(NotApart, joined, None, 0, "x", low_tree(range(3999)))
+        self.refused(NotApart, joined, leaf(FAR), FAR, "x", None)
+        self.refused(NotApart, joined, None, -FAR, "x", leaf(-FAR))
+        self.refused(NotApart, joined, leaf(9), 5, "x", leaf(1))
 
 
 class Laid(Case):
@@ -160,8 +149,8 @@ class Laid(Case):
     def test_keys_of_sixty_figures(self):
         self.check_laid(leaf(-FAR), leaf(FAR))
         self.check_laid(leaf(FAR - 1), leaf(FAR))
-        self.refused(laid, leaf(FAR), leaf(FAR))
-        self.refused(laid, leaf(FAR), leaf(-FAR))
+        self.refused(NotApart, laid, leaf(FAR), leaf(FAR))
+        self.refused(NotApart, laid, leaf(FAR), leaf(-FAR))
 
     def test_refused_just_where_keys_are_not_apart(self):
         for many in range(1, 6):
@@ -171,12 +160,12 @@ class Laid(Case):
                         if first >= many:
                             self.check_laid(one, other)
                         else:
-                            self.refused(laid, one, other)
+                            self.refused(NotApart, laid, one, other)
 
     def test_refused_with_itself(self):
         for many in (1, 2, 3, 1000):
             tree = low_tree(range(many))
-            self.refused(laid, tree, tree)
+            self.refused(NotApart, laid, tree, tree)
 
 
 class CutAt(Case):

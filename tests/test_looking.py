@@ -2,11 +2,13 @@
 
 import unittest
 
-from redpaint.errors import NoKey, NoPlace, TreeError
+from redpaint.errors import NoKey, NoPlace
 from redpaint.looking import (
     count_below, has_key, pair_ahead, pair_at, pair_behind, pairs_between, pairs_of, road_to, thing_of,
 )
-from shapes import FAR, THINGS, flat, large_trees, leaf, low_tree, sound_trees, steep_count, steep_tree, tie
+from shapes import (
+    FAR, THINGS, TreeCase, flat, large_trees, leaf, low_tree, probes, sound_trees, steep_count, steep_tree, tie,
+)
 
 
 def all_small():
@@ -22,33 +24,7 @@ def far_tree():
     return low_tree(keys), keys
 
 
-def probes(keys):
-    """Each key, one less and one more, and keys far off at either end."""
-    found = {0, -FAR, FAR}
-    for key in keys:
-        found.update((key - 1, key, key + 1))
-    return sorted(found)
-
-
-class Case(unittest.TestCase):
-
-    def refused(self, error, deed, *given):
-        for kind in (error, TreeError, ValueError):
-            with self.assertRaises(kind) as caught:
-                deed(*given)
-            self.assertIs(type(caught.exception), error)
-
-    def assert_pair(self, given, wanted):
-        self.assertEqual(given, wanted)
-        if wanted is not None:
-            self.assertIs(type(given), tuple)
-            self.assertIs(given[1], wanted[1])
-
-    def assert_pairs(self, given, wanted):
-        self.assertIs(type(given), list)
-        self.assertEqual(len(given), len(wanted))
-        for one, other in zip(given, wanted):
-            self.assert_pair(one, other)
+class Case(TreeCase):
 
     def each_tree(self):
         """Trees small and large, and keys to look for in them."""
